@@ -1,0 +1,1 @@
+"""Who says what in turn, until all say the same."""

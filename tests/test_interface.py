@@ -1,0 +1,65 @@
+"""The first paragraphs of the interface: each name in its file, with its parameters in their order."""
+
+import importlib
+import inspect
+import unittest
+
+FUNCTIONS = {
+    "cases": {
+        "is_name": "value", "is_set": "case value", "is_event": "case value",
+    },
+    "knowing": {
+        "cell_of": "case person world", "knows": "case person event", "all_know": "case event",
+        "open_cells": "case", "open_cell": "case world", "is_open": "case world event",
+        "chain": "case world other", "is_chain": "case world other value",
+    },
+}
+
+METHODS = {
+    ("cases", "Case"): {
+        "__init__": "self worlds weights people", "cells": "self person", "weight": "self some",
+        "with_cells": "self person cells", "__eq__": "self other",
+    },
+}
+
+PROPERTIES = {("cases", "Case"): ["worlds", "weights", "names"]}
+
+
+def thing_in(file, name):
+    return getattr(importlib.import_module("talkedalike." + file), name)
+
+
+def parameters(function):
+    """The names of the parameters, all of them such as may be passed by position and by name."""
+    told = inspect.signature(function).parameters.values()
+    assert all(each.kind == each.POSITIONAL_OR_KEYWORD and each.default is each.empty for each in told)
+    return " ".join(each.name for each in told)
+
+
+class InterfaceTest(unittest.TestCase):
+    def test_functions(self):
+        for file, functions in FUNCTIONS.items():
+            for name, due in functions.items():
+                with self.subTest(file=file, name=name):
+                    function = thing_in(file, name)
+                    self.assertTrue(inspect.isfunction(function))
+                    self.assertEqual(function.__module__, "talkedalike." + file)
+                    self.assertEqual(parameters(function), due)
+
+    def test_methods_stand_in_the_class_itself(self):
+        for (file, class_name), methods in METHODS.items():
+            made = thing_in(file, class_name)
+            self.assertTrue(inspect.isclass(made))
+            self.assertEqual(made.__module__, "talkedalike." + file)
+            for name, due in methods.items():
+                with self.subTest(file=file, name=name):
+                    self.assertEqual(parameters(vars(made)[name]), due)
+
+    def test_properties_stand_in_the_class_itself(self):
+        for (file, class_name), names in PROPERTIES.items():
+            for name in names:
+                self.assertIsInstance(vars(thing_in(file, class_name))[name], property)
+
+
+if __name__ == "__main__":
+    unittest.main()
