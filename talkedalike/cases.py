@@ -14,6 +14,11 @@ def is_name(value):
     return all([letter in LETTERS for letter in value])
 
 
+def is_integer(value):
+    """Whether any value is an integer, which a bool is not."""
+    return isinstance(value, int) and not isinstance(value, bool)
+
+
 class Case:
     """Worlds with their weights, and people with their cells. No method changes a case."""
 
@@ -90,6 +95,14 @@ def is_event(case, value):
     return all([value[at - 1] < value[at] for at in range(1, len(value))])
 
 
+def sets_of(worlds):
+    """The list of all sets of the worlds, ascending."""
+    found = []
+    for world in sorted(worlds):
+        found = found + [(world,)] + [some + (world,) for some in found]
+    return sorted(found)
+
+
 def are_cells(value, worlds):
     """Whether any value is cells of the worlds, which are a list, or a dict to be quick."""
     if not isinstance(value, tuple):
@@ -139,11 +152,7 @@ def _are_worlds(value):
 def _are_weights(value, many):
     if not isinstance(value, (list, tuple)) or len(value) != many:
         return False
-    return all([_is_weight(thing) for thing in value])
-
-
-def _is_weight(value):
-    return isinstance(value, int) and not isinstance(value, bool) and value >= 1
+    return all([is_integer(thing) and thing >= 1 for thing in value])
 
 
 def _check_people(people, worlds):

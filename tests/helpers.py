@@ -66,7 +66,7 @@ def seen_of(case):
 class Refusals:
     """For a TestCase: whether a call raises just the error that is due."""
 
-    def refused(self, error, call, *args, **named):
+    def refused(self, error, call, /, *args, **named):
         """Check that the call raises the error, which has these attributes and no others."""
         attributes = named.pop("attributes")
         with self.assertRaises(TalkError) as caught:
@@ -75,8 +75,28 @@ class Refusals:
         self.assertIs(type(raised), error)
         self.assertEqual(repr(vars(raised)), repr(attributes))
 
-    def refused_value(self, error, value, call, *args, **named):
+    def refused_value(self, error, value, call, /, *args, **named):
         """Check that the call raises the error with the value, and leaves the value as it was."""
         before = repr(value)
         self.refused(error, call, *args, attributes={"value": value}, **named)
         self.assertEqual(repr(value), before)
+
+
+def exchanged(value):
+    """The value with one thing in it exchanged, left out, put in, turned round, or made of another kind."""
+    if isinstance(value, (tuple, list)):
+        kind = type(value)
+        things = list(value)
+        found = [tuple(things) if kind is list else things, things + [things], kind(things * 2)]
+        if kind(things[::-1]) != value:
+            found.append(kind(things[::-1]))
+        for at, thing in enumerate(things):
+            found.append(kind(things[:at] + things[at + 1:]))
+            found.append(kind(things[:at] + [thing] + things[at:]))
+            found += [kind(things[:at] + [new] + things[at + 1:]) for new in exchanged(thing)]
+        return found
+    if isinstance(value, bool):
+        return [int(value), not value, None, "yes", (value,)]
+    if isinstance(value, int):
+        return [bool(value)] * (value in (0, 1)) + [value + 1, value - 1, -value - 7, None, str(value), (value,), [value]]
+    return [value + "a", value + "\n", "", value.upper(), "z", 1, None, (value,), [value], {value: value}]

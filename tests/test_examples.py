@@ -21,6 +21,43 @@ STAGE_2 = '''
 True
 '''
 
+STAGE_3 = '''
+>>> from talkedalike.cases import Case
+>>> from talkedalike.rules import word_in, word_of
+>>> case = Case(["a", "b", "c"], [1, 1, 2], [("ann", (("a", "b"), ("c",))), ("bob", (("a",), ("b", "c")))])
+>>> [word_of(case, ("chance", ("a", "c")), ("a", "b")), word_of(case, ("atleast", ("a",), 1, 2), ("a", "c")), word_of(case, ("floor", ("c",), 10), ("b", "c")), word_of(case, ("best", (("go", (3, 0, 0)), ("stay", (0, 0, 1)))), ("a", "c"))]
+[(1, 2), False, 6, 'go']
+>>> word_in(case, ("both", ("size",), ("sure", ("c",))), "bob", "b")
+(2, 'open')
+'''
+
+STAGE_4 = '''
+>>> from talkedalike.cases import Case
+>>> from talkedalike.talks import end, said, talk, talk_length, teaches
+>>> case = Case(["a", "b", "c"], [1, 1, 1], [("ann", (("a", "b"), ("c",))), ("bob", (("a",), ("b", "c")))])
+>>> [talk_length(case, ("chance", ("a",)), ("ann", "bob")), talk(case, ("chance", ("a",)), ("ann",)), said(case, ("chance", ("a",)), ("ann", "bob"), "b", 3)]
+[2, [('ann', {'ann': [('a', 'b'), ('c',)], 'bob': [('a',), ('b',), ('c',)]})], [(1, 2), (0, 1), (0, 1)]]
+>>> [end(case, ("chance", ("a",)), ("ann", "bob")).cells("ann"), teaches(case, ("size",), "ann")]
+[[('a',), ('b',), ('c',)], True]
+'''
+
+STAGE_5 = '''
+>>> from talkedalike.cases import Case
+>>> from talkedalike.endings import are_alike, is_paper, paper, unlike_worlds
+>>> case = Case(["a", "b", "c", "d"], [1, 1, 1, 1], [("ann", (("a", "b"), ("c", "d"))), ("bob", (("a", "c"), ("b", "d")))])
+>>> rule = ("chance", ("a", "d"))
+>>> [are_alike(case, rule, ("ann", "bob"), "a"), is_paper(case, rule, ("ann", "bob"), "a", ((1, 2), ("a", "b", "c", "d"))), unlike_worlds(case, ("size",), ("ann", "bob"))]
+[True, True, ()]
+'''
+
+STAGE_6 = '''
+>>> from talkedalike.cases import Case
+>>> from talkedalike.verdicts import decide, keeps_together, least_split, quarrel
+>>> case = Case(["a", "b", "c"], [1, 1, 1], [("ann", (("a", "b", "c"),))])
+>>> [keeps_together(case, ("chance", ("a",))), decide(case, ("sure", ("b",))), least_split(case, ("size",)), quarrel(case, ("size",)).cells("one")]
+[True, ('together', None), (('a',), ('b',)), [('a',), ('b',), ('c',)]]
+'''
+
 
 class ExamplesTest(unittest.TestCase):
     def check(self, text):
@@ -35,6 +72,18 @@ class ExamplesTest(unittest.TestCase):
 
     def test_stage_2(self):
         self.check(STAGE_2)
+
+    def test_stage_3(self):
+        self.check(STAGE_3)
+
+    def test_stage_4(self):
+        self.check(STAGE_4)
+
+    def test_stage_5(self):
+        self.check(STAGE_5)
+
+    def test_stage_6(self):
+        self.check(STAGE_6)
 
     def test_readme(self):
         text = (pathlib.Path(__file__).parent.parent / "README.md").read_text(encoding="utf-8")

@@ -13,6 +13,21 @@ FUNCTIONS = {
         "open_cells": "case", "open_cell": "case world", "is_open": "case world event",
         "chain": "case world other", "is_chain": "case world other value",
     },
+    "rules": {
+        "is_rule": "case value", "word_of": "case rule some", "words": "case rule", "word_in": "case rule person world",
+    },
+    "talks": {
+        "after": "case rule person", "teaches": "case rule person", "talk": "case rule order",
+        "talk_length": "case rule order", "end": "case rule order", "said": "case rule order world turns",
+    },
+    "endings": {
+        "is_settled": "case rule order", "are_alike": "case rule order world", "unlike_worlds": "case rule order",
+        "paper": "case rule order world", "is_paper": "case rule order world value",
+    },
+    "verdicts": {
+        "keeps_together": "case rule", "splits": "case rule", "least_split": "case rule", "is_split": "case rule value",
+        "quarrel": "case rule", "decide": "case rule",
+    },
 }
 
 METHODS = {

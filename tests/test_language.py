@@ -60,6 +60,41 @@ class LanguageTest(unittest.TestCase):
             for node in nodes(path, ast.Attribute):
                 self.assertNotEqual(node.attr, "sort")
 
+    def test_l15_no_name_of_an_import_or_a_class_of_the_file(self):
+        for path in FILES:
+            taken = [name.name for node in nodes(path, ast.ImportFrom) for name in node.names]
+            taken += [node.name for node in nodes(path, ast.ClassDef)]
+            named = [node.id for node in nodes(path, ast.Name) if isinstance(node.ctx, ast.Store)]
+            named += [node.arg for node in nodes(path, ast.arg)] + [node.name for node in nodes(path, ast.FunctionDef)]
+            self.assertEqual([name for name in named if name in taken], [], path)
+            self.assertEqual(len(taken), len(set(taken)), path)
+
+    def test_l16_no_two_files_import_from_each_other(self):
+        imported = {"talkedalike." + path.stem: [node.module for node in nodes(path, ast.ImportFrom)] for path in FILES}
+        done = []
+        while len(done) < len(imported):
+            free = [name for name in imported if name not in done
+                    and all(module in done or module not in imported for module in imported[name])]
+            self.assertNotEqual(free, [], sorted(set(imported) - set(done)))
+            done += free
+
+    def test_l16_what_is_imported_is_defined_in_that_very_file(self):
+        for path in FILES:
+            for node in nodes(path, ast.ImportFrom):
+                if node.module.startswith("talkedalike."):
+                    source = ast.parse((PACKAGE / (node.module.split(".")[1] + ".py")).read_text(encoding="utf-8"))
+                    defined = [each.name for each in source.body if isinstance(each, (ast.FunctionDef, ast.ClassDef))]
+                    self.assertEqual([name.name for name in node.names if name.name not in defined], [], path)
+
+    def test_l17_words(self):
+        barred = {"register", "mro", "elements", "open", "input", "law", "eval", "exec", "globals", "locals", "vars", "dir",
+                  "id", "type", "getattr", "hasattr", "setattr", "super", "compile", "exit", "quit", "help"}
+        for path in FILES:
+            named = [node.id for node in nodes(path, ast.Name)] + [node.attr for node in nodes(path, ast.Attribute)]
+            named += [node.arg for node in nodes(path, (ast.arg, ast.keyword))]
+            named += [node.name for node in nodes(path, (ast.FunctionDef, ast.ClassDef))]
+            self.assertEqual([name for name in named if name in barred], [], path)
+
     def test_l15_no_name_of_a_builtin(self):
         for path in FILES:
             named = [node.id for node in nodes(path, ast.Name) if isinstance(node.ctx, ast.Store)]
