@@ -3,7 +3,6 @@
 from talkedalike.errors import BadCells, BadEvent, BadPeople, BadPerson, BadWeights
 from talkedalike.errors import BadWorlds, NamedTwice, NoPerson, NoSet, NoWorld
 
-LETTERS = "abcdefghijklmnopqrstuvwxyz"
 LONGEST_NAME = 8
 
 
@@ -11,7 +10,7 @@ def is_name(value):
     """Whether any value is a name."""
     if not isinstance(value, str) or not 1 <= len(value) <= LONGEST_NAME:
         return False
-    return all([letter in LETTERS for letter in value])
+    return value.isascii() and value.isalpha() and value.islower()
 
 
 def is_integer(value):
@@ -65,8 +64,20 @@ class Case:
         need_person(self, person)
         if not are_cells(cells, self._weight_of):
             raise BadCells(cells)
-        people = [(name, cells if name == person else self._cells_of[name]) for name in self._names]
-        return Case(self._worlds, self._weights, people)
+        cells_of = dict(self._cells_of)
+        cells_of[person] = _ascending(cells)
+        return self.with_all_cells(cells_of)
+
+    def with_all_cells(self, cells_of):
+        """A new case that has other cells for all people: a new dict from their names to tuples as _ascending tells."""
+        made = Case(("a",), (1,), (("a", (("a",),)),))
+        # All of it is known to be good: to look at it once more takes longer than a turn of a talk.
+        made._worlds = self._worlds
+        made._weights = self._weights
+        made._weight_of = self._weight_of
+        made._names = self._names
+        made._cells_of = cells_of
+        return made
 
     def has_person(self, value):
         """Whether any value is a name of a person of the case."""
@@ -98,9 +109,10 @@ def is_event(case, value):
 def sets_of(worlds):
     """The list of all sets of the worlds, ascending."""
     found = []
-    for world in sorted(worlds):
-        found = found + [(world,)] + [some + (world,) for some in found]
-    return sorted(found)
+    for world in sorted(worlds, reverse=True):
+        # The sets with this world are less than those of later worlds only.
+        found = [(world,)] + [(world,) + some for some in found] + found
+    return found
 
 
 def are_cells(value, worlds):

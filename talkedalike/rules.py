@@ -1,10 +1,9 @@
 """Rules of saying: what is one, and which word it has for a set of worlds."""
 
-from math import gcd
-
 from talkedalike.cases import is_event, is_integer, is_name, need_set, sets_of
 from talkedalike.errors import BadRule
 from talkedalike.knowing import cell_of
+from talkedalike.voices import Masks, Voice
 
 
 def is_rule(case, value):
@@ -26,33 +25,27 @@ def word_of(case, rule, some):
     """The rule's word for a set."""
     need_rule(case, rule)
     need_set(case, some)
-    return spoken(case, rule, some)
+    return _spoken(case, rule, some)
 
 
 def words(case, rule):
     """The list of the tuples (set, word) for all sets, ascending."""
     need_rule(case, rule)
-    return [(some, spoken(case, rule, some)) for some in sets_of(case.worlds)]
+    masks = Masks(case)
+    voice = Voice(case, masks, rule)
+    return [(masks.set_of(mask), voice.word(mask)) for mask in masks.all_sets()]
 
 
 def word_in(case, rule, person, world):
     """The person's word in a world."""
     need_rule(case, rule)
-    return spoken(case, rule, cell_of(case, person, world))
+    return _spoken(case, rule, cell_of(case, person, world))
 
 
 def need_rule(case, rule):
     """Refuse what is no rule for the case."""
     if not is_rule(case, rule):
         raise BadRule(rule)
-
-
-def spoken(case, rule, some):
-    """The word of what surely is a rule for what surely is a set."""
-    if rule[0] == "both":
-        return (spoken(case, rule[1], some), spoken(case, rule[2], some))
-    tell = TELLERS[rule[0]]
-    return tell(case, rule, some)
 
 
 def are_one_word(word, value):
@@ -117,62 +110,12 @@ def _is_row(some, value):
     return is_integer(value[1]) or is_name(value[1])
 
 
-def _chance(case, rule, some):
-    top, bottom = _parts(case, rule[1], some)
-    common = gcd(top, bottom)
-    return (top // common, bottom // common)
-
-
-def _atleast(case, rule, some):
-    top, bottom = _parts(case, rule[1], some)
-    return top * rule[3] >= rule[2] * bottom
-
-
-def _floor(case, rule, some):
-    top, bottom = _parts(case, rule[1], some)
-    return top * rule[2] // bottom
-
-
-def _parts(case, event, some):
-    """The weight of the set's worlds in the event, and the weight of the set."""
-    inside = _inside(event, some)
-    return (case.weight(inside) if inside else 0, case.weight(some))
-
-
-def _inside(event, some):
-    return tuple([world for world in some if world in event])
-
-
-def _sure(case, rule, some):
-    inside = _inside(rule[1], some)
-    if len(inside) == len(some):
-        return "yes"
-    return "open" if inside else "no"
-
-
-def _best(case, rule, some):
-    sums = [_sum(case, deed[1], some) for deed in rule[1]]
-    return rule[1][sums.index(max(sums))][0]
-
-
-def _sum(case, pays, some):
-    return sum([weight * pay for world, weight, pay in zip(case.worlds, case.weights, pays) if world in some])
-
-
-def _size(case, rule, some):
-    return len(some)
-
-
-def _table(case, rule, some):
-    told = {row[0]: row[1] for row in rule[1]}
-    return told[some]
+def _spoken(case, rule, some):
+    masks = Masks(case)
+    return Voice(case, masks, rule).word(masks.mask_of(some))
 
 
 CHECKS = {
     "chance": _is_chance, "atleast": _is_atleast, "floor": _is_floor, "sure": _is_chance, "best": _is_best,
     "size": _is_size, "table": _is_table,
-}
-TELLERS = {
-    "chance": _chance, "atleast": _atleast, "floor": _floor, "sure": _sure, "best": _best,
-    "size": _size, "table": _table,
 }

@@ -1,31 +1,32 @@
 """Verdicts: whether a rule keeps together, and otherwise the splits, and the quarrel that comes of the least."""
 
-from talkedalike.cases import Case, is_set, sets_of
-from talkedalike.rules import are_one_word, need_rule, spoken, words
+from talkedalike.cases import Case, is_set
+from talkedalike.rules import need_rule
+from talkedalike.voices import Masks, Voice
 
 
 def keeps_together(case, rule):
     """Whether the set of all worlds of two sets apart with the same word always has this word."""
-    return not splits(case, rule)
+    return least_split(case, rule) is None
 
 
 def splits(case, rule):
     """The list of all splits, the less one first."""
-    word_by_set = {some: word for some, word in words(case, rule)}
+    search = _search(case, rule)
     found = []
-    for whole in sets_of(case.worlds):
-        for one in sets_of(whole):
-            other = tuple([world for world in whole if world not in one])
-            # Each two sets are met twice, and one of them is all and the other one nothing once.
-            if one < other and _fails(word_by_set[one], word_by_set[other], word_by_set[whole]):
-                found.append((one, other))
-    return sorted(found, key=_rank)
+    for many in search.sizes():
+        found.extend(search.splits_of(many))
+    return found
 
 
 def least_split(case, rule):
     """The least split, None if there is none."""
-    found = splits(case, rule)
-    return found[0] if found else None
+    search = _search(case, rule)
+    for many in search.sizes():
+        found = search.splits_of(many)
+        if found:
+            return found[0]
+    return None
 
 
 def is_split(case, rule, value):
@@ -36,8 +37,10 @@ def is_split(case, rule, value):
     one, other = value
     if not one < other or not all([world not in one for world in other]):
         return False
-    whole = tuple(sorted(one + other))
-    return _fails(spoken(case, rule, one), spoken(case, rule, other), spoken(case, rule, whole))
+    masks = Masks(case)
+    voice = Voice(case, masks, rule)
+    key = voice.key(masks.mask_of(one))
+    return key == voice.key(masks.mask_of(other)) and key != voice.key(masks.mask_of(one + other))
 
 
 def quarrel(case, rule):
@@ -52,12 +55,50 @@ def decide(case, rule):
     return ("together", None) if split is None else ("apart", split, _quarrel_of(case, split))
 
 
-def _fails(word, same, whole):
-    return are_one_word(word, same) and not are_one_word(word, whole)
+class Search:
+    """The search for the splits of a rule: the sets of a case, and a number for each word that they have."""
+
+    def __init__(self, case, masks, voice):
+        self._many = len(case.worlds)
+        self._masks = masks.all_sets()
+        self._sets = [masks.set_of(mask) for mask in self._masks]
+        self._places = {mask: place for place, mask in enumerate(self._masks)}
+        numbers = {}
+        # Numbers are held against one another more quickly than words.
+        self._numbers = [numbers.setdefault(key, len(numbers)) for key in voice.all_keys(self._many)]
+
+    def sizes(self):
+        """The numbers of worlds that two sets apart may have together."""
+        return list(range(2, self._many + 1))
+
+    def splits_of(self, many):
+        """The ascending list of the splits with so many worlds together."""
+        found = []
+        for whole, some in zip(self._masks, self._sets):
+            if len(some) == many:
+                found.extend(self._splits_of_whole(whole))
+        pairs = sorted(found)
+        return [(self._sets[one], self._sets[other]) for one, other in pairs]
+
+    def _splits_of_whole(self, whole):
+        """The places of the sets of each split whose worlds together are these."""
+        numbers = self._numbers
+        word = numbers[whole]
+        found = []
+        # The one has the least world of all, as it is less than the other.
+        rest = whole & (whole - 1)
+        other = rest
+        while other:
+            if numbers[other] != word and numbers[other] == numbers[whole ^ other]:
+                found.append((self._places[whole ^ other], self._places[other]))
+            other = (other - 1) & rest
+        return found
 
 
-def _rank(split):
-    return (len(split[0]) + len(split[1]), split)
+def _search(case, rule):
+    need_rule(case, rule)
+    masks = Masks(case)
+    return Search(case, masks, Voice(case, masks, rule))
 
 
 def _quarrel_of(case, split):
