@@ -1,9 +1,11 @@
-"""Cases, rules and orders that are drawn, the same ones in each run."""
+"""Cases, rules, orders, webs, events of halls and forms that are drawn, the same ones in each run."""
 
 import random
+from fractions import Fraction
+from math import gcd
 
 from talkedalike.cases import Case
-from tests.by_the_words import all_sets
+from tests.by_the_words import all_sets, starts
 from tests.helpers import events
 
 LETTERS = "abcdefgh"
@@ -59,3 +61,70 @@ def draw_all_order(draw, case):
     order = case.names + list(draw_order(draw, case))
     draw.shuffle(order)
     return tuple(order)
+
+
+def draw_web(draw, names, most=6):
+    """A web of people, of whom there are two or more."""
+    return [tuple(draw.sample(names, 2)) for _ in range(draw.randint(1, most))]
+
+
+def draw_event(draw, case):
+    return draw.choice(events(case.worlds))
+
+
+def draw_hall_events(draw, case, kinds, many):
+    """Events that can be done one after the other in a hall."""
+    names, found = list(case.names), []
+    for _ in range(many):
+        kind = draw.choice(["say", "say", "whisper", "whisper", "look", "come", "leave"])
+        person, free = draw.choice(names), [name for name in PEOPLE if name not in names]
+        if kind == "whisper" and len(names) > 1:
+            hearer = draw.choice([name for name in names if name != person])
+            found.append((kind, person, hearer, draw_rule(draw, case, kinds)))
+        elif kind == "look":
+            found.append((kind, person, draw_event(draw, case)))
+        elif kind == "come" and free:
+            names.append(draw.choice(free))
+            found.append((kind, names[-1], draw_cells(draw, case.worlds)))
+        elif kind == "leave" and len(names) > 1:
+            names.remove(person)
+            found.append((kind, person))
+        else:
+            found.append(("say", person, draw_rule(draw, case, kinds)))
+    return found
+
+
+def draw_share(draw, most=6):
+    bottom = draw.randint(1, most)
+    top = draw.randint(0, bottom)
+    return (top // gcd(top, bottom), bottom // gcd(top, bottom))
+
+
+def draw_three(draw, most=6):
+    """Three ascending shares."""
+    found = {draw_share(draw, most) for _ in range(3)}
+    return tuple(sorted(found, key=lambda share: Fraction(*share))) if len(found) == 3 else draw_three(draw, most)
+
+
+def draw_cut(draw, words, most=6):
+    shares = sorted({draw_share(draw, most) for _ in range(draw.randint(0, 4))}, key=lambda share: Fraction(*share))
+    rows = [(side, share) for share in shares for side in ("at", "above")]
+    rows = [row for row in rows if row not in [("at", (0, 1)), ("above", (1, 1))] and draw.random() < 0.7]
+    return ("cut", draw.choice(words), tuple(row + (draw.choice(words),) for row in rows))
+
+
+def draw_form(draw, levels=2, most=6, words=("low", "mid", 1, 2)):
+    """A form with not too many words."""
+    kind = draw.choice(["cut", "cut", "read", "pair"]) if levels else "cut"
+    if kind == "pair":
+        return (kind, draw_form(draw, levels - 1, most, words[:2]), draw_form(draw, levels - 1, most, words[-2:]))
+    if kind == "read":
+        inner = draw_form(draw, levels - 1, most, words)
+        told = sorted({repr(word): word for word in [*words_told(inner), "none", (1, 2)]}.items())
+        firsts = draw.sample([word for _, word in told], draw.randint(0, len(told)))
+        return (kind, inner, tuple((first, draw.choice(words)) for first in firsts))
+    return draw_cut(draw, words, most)
+
+
+def words_told(form):
+    return [word for _, _, word in starts(form)]

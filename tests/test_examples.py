@@ -2,6 +2,7 @@
 
 import doctest
 import pathlib
+import re
 import unittest
 
 STAGE_1 = '''
@@ -58,9 +59,37 @@ STAGE_6 = '''
 [True, ('together', None), (('a',), ('b',)), [('a',), ('b',), ('c',)]]
 '''
 
+STAGE_7 = '''
+>>> from talkedalike.cases import Case
+>>> from talkedalike.whispers import deaf, deaf_case, leads, route, whispers
+>>> case = Case(["a", "b"], [1, 1], [("ann", (("a",), ("b",))), ("bob", (("a", "b"),)), ("cas", (("a", "b"),))])
+>>> web = [("ann", "bob"), ("bob", "cas")]
+>>> [whispers(case, ("chance", ("a",)), web), route(case, web, "ann", "cas"), leads(case, web, "cas", "ann"), deaf(case, web), deaf_case(case, web).cells("bob")]
+[2, [('ann', 'bob'), ('bob', 'cas')], False, ('ann',), [('here',), ('there',)]]
+'''
+
+STAGE_8 = '''
+>>> from talkedalike.backs import are_told_apart, fits, rows, told_cells
+>>> from talkedalike.cases import Case
+>>> case = Case(["a", "b", "c"], [1, 1, 1], [("ann", (("a", "b"), ("c",))), ("bob", (("a",), ("b", "c")))])
+>>> rule = ("sure", ("c",))
+>>> [fits(case, rule, ("ann", "bob"), ["no"]), rows(case, rule, ("ann", "bob"), 2), told_cells(case, rule, ("ann", "bob")), are_told_apart(case, rule, ("ann", "bob"), ("a", "b"))]
+[('a', 'b'), [['no', 'no'], ['yes', 'yes']], [('a', 'b'), ('c',)], False]
+'''
+
+STAGE_9 = '''
+>>> from talkedalike.cases import Case
+>>> from talkedalike.halls import Hall
+>>> hall = Hall(Case(["a", "b"], [1, 1], [("ann", (("a",), ("b",))), ("bob", (("a", "b"),))]))
+>>> [hall.say("bob", ("chance", ("a",))), hall.whisper("ann", "bob", ("sure", ("a",))), hall.case.cells("bob"), hall.heard("b"), hall.possible("b"), hall.undo()]
+[None, None, [('a',), ('b',)], [(1, 2), 'no'], ('b',), ('whisper', 'ann', 'bob', ('sure', ('a',)))]
+'''
+
 
 class ExamplesTest(unittest.TestCase):
     def check(self, text):
+        # What the document writes as "raises BadLine(2)" is for doctest the last line of a traceback.
+        text = re.sub(r"(?m)^raises (\w+)\((.*)\)$", r"Traceback (most recent call last):\ntalkedalike.errors.\1: \2", text)
         example = doctest.DocTestParser().get_doctest(text, {}, self.id(), None, None)
         self.assertGreater(len(example.examples), 0)
         told = []
@@ -84,6 +113,15 @@ class ExamplesTest(unittest.TestCase):
 
     def test_stage_6(self):
         self.check(STAGE_6)
+
+    def test_stage_7(self):
+        self.check(STAGE_7)
+
+    def test_stage_8(self):
+        self.check(STAGE_8)
+
+    def test_stage_9(self):
+        self.check(STAGE_9)
 
     def test_readme(self):
         text = (pathlib.Path(__file__).parent.parent / "README.md").read_text(encoding="utf-8")

@@ -28,6 +28,15 @@ FUNCTIONS = {
         "keeps_together": "case rule", "splits": "case rule", "least_split": "case rule", "is_split": "case rule value",
         "quarrel": "case rule", "decide": "case rule",
     },
+    "whispers": {
+        "whispered": "case rule web", "whispers": "case rule web", "leads": "case web person other",
+        "route": "case web person other", "deaf": "case web", "is_deaf": "case web value", "deaf_case": "case web",
+    },
+    "backs": {
+        "fits": "case rule order heard", "rows": "case rule order turns", "told_cells": "case rule order",
+        "are_told_apart": "case rule order value",
+    },
+    "halls": {"replayed": "case events"},
 }
 
 METHODS = {
@@ -35,9 +44,14 @@ METHODS = {
         "__init__": "self worlds weights people", "cells": "self person", "weight": "self some",
         "with_cells": "self person cells", "__eq__": "self other",
     },
+    ("halls", "Hall"): {
+        "__init__": "self case", "say": "self person rule", "whisper": "self person hearer rule", "look": "self person event",
+        "come": "self person cells", "leave": "self person", "undo": "self", "fork": "self", "heard": "self world",
+        "possible": "self world",
+    },
 }
 
-PROPERTIES = {("cases", "Case"): ["worlds", "weights", "names"]}
+PROPERTIES = {("cases", "Case"): ["worlds", "weights", "names"], ("halls", "Hall"): ["case", "history"]}
 
 
 def thing_in(file, name):

@@ -84,6 +84,7 @@ class LanguageTest(unittest.TestCase):
                 if node.module.startswith("talkedalike."):
                     source = ast.parse((PACKAGE / (node.module.split(".")[1] + ".py")).read_text(encoding="utf-8"))
                     defined = [each.name for each in source.body if isinstance(each, (ast.FunctionDef, ast.ClassDef))]
+                    defined += [each.targets[0].id for each in source.body if isinstance(each, ast.Assign)]
                     self.assertEqual([name.name for name in node.names if name.name not in defined], [], path)
 
     def test_l17_words(self):

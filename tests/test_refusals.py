@@ -8,7 +8,8 @@ from talkedalike.errors import BadNumber, BadOrder, BadRule, NoPerson, NoSet, No
 from talkedalike.rules import is_rule, word_in, word_of, words
 from talkedalike.talks import after, end, said, talk, talk_length, teaches
 from talkedalike.verdicts import decide, is_split, keeps_together, least_split, quarrel, splits
-from tests.helpers import Refusals, cells, seen_of, two_people, values_of_all_kinds
+from tests.helpers import Refusals, cells, two_people, values_of_all_kinds
+from tests.refusing import CallChecks
 
 SIZE = ("size",)
 CHANCE = ("chance", ("a",))
@@ -54,59 +55,19 @@ def calls():
     ]
 
 
-class CallsTest(Refusals, unittest.TestCase):
-    def test_by_position_and_by_name_the_same_is_told(self):
-        for function, named in calls() + [(is_rule, {"case": a_case(), "value": SIZE})]:
-            with self.subTest(name=function.__name__):
-                due = function(*named.values())
-                self.assertEqual(function(**named), due)
-                self.assertEqual(function(**dict(reversed(list(named.items())))), due)
+class CallsTest(CallChecks, unittest.TestCase):
+    bad = BAD
 
-    def test_each_refusal_by_position_and_by_name(self):
-        for function, named in calls():
-            for parameter in BAD.keys() & named.keys():
-                error, values = BAD[parameter]
-                for value in values:
-                    with self.subTest(name=function.__name__, parameter=parameter, value=repr(value)[:99]):
-                        bad = {**named, parameter: value}
-                        self.refused_value(error, value, function, *bad.values())
-                        self.refused_value(error, value, function, **bad)
+    def calls(self):
+        return calls()
 
-    def test_of_two_refusals_the_one_of_the_earlier_parameter_is_due(self):
-        tried = 0
-        for function, named in calls():
-            refusing = [parameter for parameter in named if parameter in BAD]
-            for at, first in enumerate(refusing):
-                for second in refusing[at + 1:]:
-                    error, values = BAD[first]
-                    for value, other in [(values[0], BAD[second][1][0]), (values[-1], BAD[second][1][-1]), (None, [])]:
-                        with self.subTest(name=function.__name__, parameters=(first, second)):
-                            bad = {**named, first: value, second: other}
-                            self.refused_value(error, value, function, *bad.values())
-                            self.refused_value(error, value, function, **bad)
-                            tried += 1
-        # Two of word_of, three of word_in, .. : as many pairs as parameters make, three times each.
-        self.assertEqual(tried, 3 * (1 + 3 + 1 + 1 + 3 * 1 + 6 + 1 + 3 + 1 + 3 + 3))
+    def test_as_many_pairs_of_refusals_as_there_are(self):
+        # Two of word_of, three of word_in, .. : as many pairs as parameters make.
+        self.assertEqual(self.unlike_pairs(), 1 + 3 + 1 + 1 + 3 * 1 + 6 + 1 + 3 + 1 + 3 + 3)
 
-    def test_of_all_refusals_at_once_the_first_is_due(self):
-        for function, named in calls():
-            bad = {parameter: None if parameter in BAD else value for parameter, value in named.items()}
-            with self.subTest(name=function.__name__):
-                self.refused_value(BadRule, None, function, **bad)
-
-    def test_a_refusal_changes_nothing(self):
-        for function, named in calls():
-            before = seen_of(named["case"])
-            for parameter in BAD.keys() & named.keys():
-                with self.assertRaises(BAD[parameter][0]):
-                    function(**{**named, parameter: {}})
-            self.assertEqual(seen_of(named["case"]), before)
-
-    def test_whatever_the_value_the_other_parameters_are_refused(self):
-        for function, named in calls():
-            if "value" in named:
-                for value in values_of_all_kinds() + [[], ()]:
-                    self.refused_value(BadRule, value, function, **{**named, "rule": value, "value": value})
+    def test_is_rule_refuses_nothing(self):
+        self.assertIs(is_rule(a_case(), SIZE), True)
+        self.assertIs(is_rule(value=SIZE, case=a_case()), True)
 
     def test_what_is_good_for_one_case_is_refused_for_another(self):
         other = Case(["a", "d"], [1, 1], [("ann", cells("ad")), ("cas", cells("a d"))])
