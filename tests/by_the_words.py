@@ -196,7 +196,7 @@ def lines_begin_a_text(lines):
     if len(set(names)) < len(names):
         return False
     for line in lines[2:]:
-        if not re.fullmatch(r"[a-z]{1,8}( [a-z]{1,8}( [a-z]{1,8})*( \|(?= [a-z]))?)+", line):
+        if not re.fullmatch(r"[a-z]{1,8}( [a-z]{1,8})+( \|( [a-z]{1,8})+)*", line):
             return False
         if sorted(each for each in line.split(" ")[1:] if each != "|") != sorted(worlds):
             return False

@@ -5,7 +5,7 @@ import unittest
 from talkedalike.backs import are_told_apart, fits, rows, told_cells
 from talkedalike.cases import Case
 from talkedalike.errors import BadNumber, BadOrder, BadRule
-from talkedalike.knowing import open_cell
+from talkedalike.knowing import is_open, open_cell
 from talkedalike.talks import end, said, talk_length
 from tests import by_the_words
 from tests.drawn import draw_case, draw_order, draw_rule, drawer
@@ -207,14 +207,13 @@ class ToldApartTest(unittest.TestCase):
     def test_what_is_open_at_the_end_is_within_a_told_cell(self):
         draw = drawer(114)
         for _ in range(60):
-            case = draw_case(draw, most_people=3)
-            if len(case.names) > 1:
-                rule = draw_rule(draw, case, KINDS)
-                order = tuple(case.names) + draw_order(draw, case)
-                last = end(case, rule, order)
-                for some in told_cells(case, rule, order):
-                    for world in some:
-                        self.assertLessEqual(set(open_cell(last, world)), set(some))
+            case = draw_case(draw)
+            rule, order = draw_rule(draw, case, KINDS), draw_order(draw, case)
+            last = end(case, rule, order)
+            for some in told_cells(case, rule, order):
+                for world in some:
+                    self.assertLessEqual(set(open_cell(last, world)), set(some))
+                    self.assertIs(is_open(last, world, some), True)
 
     def test_each_list_is_new(self):
         told = told_cells(a_case(), CHANCE, ORDER)

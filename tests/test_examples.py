@@ -85,6 +85,50 @@ STAGE_9 = '''
 [None, None, [('a',), ('b',)], [(1, 2), 'no'], ('b',), ('whisper', 'ann', 'bob', ('sure', ('a',)))]
 '''
 
+STAGE_10 = r'''
+>>> from talkedalike.cases import Case
+>>> from talkedalike.texts import format_case, read_case
+>>> case = Case(["a", "b", "c"], [1, 1, 2], [("ann", (("c",), ("b", "a"))), ("bob", (("a", "b", "c"),))])
+>>> [format_case(case).split("\n"), read_case(format_case(case)) == case]
+[['worlds a b c', 'weights 1 1 2', 'ann a b | c', 'bob a b c'], True]
+>>> read_case("worlds a\nweights 0")
+raises BadLine(2)
+'''
+
+STAGE_11 = '''
+>>> from talkedalike.forms import first_apart, is_form, starts, word_for, words_of
+>>> form = ("cut", "low", (("at", (1, 3), "mid"), ("above", (1, 2), "low")))
+>>> [word_for(form, (1, 3)), word_for(form, (1, 2)), word_for(form, (2, 3)), words_of(form), is_form(("cut", 1, (("at", (0, 1), 2),)))]
+['mid', 'mid', 'low', ['low', 'mid'], False]
+>>> starts(("read", form, (("mid", 7), ("low", 7))))
+[('at', (0, 1), 7)]
+>>> [first_apart(form, ("cut", "low", (("at", (2, 5), "mid"), ("above", (1, 2), "low")))), first_apart(form, form)]
+[(1, 3), None]
+'''
+
+STAGE_12 = '''
+>>> from talkedalike.always import case_of, is_break, keeps_always, rule_of
+>>> form = ("cut", "low", (("at", (1, 3), "mid"), ("above", (1, 2), "low")))
+>>> [keeps_always(form), is_break(form, ((0, 1), (1, 2), (1, 1))), is_break(form, ((0, 1), (1, 4), (1, 1))), keeps_always(("cut", 0, (("above", (1, 2), 1),)))]
+[False, True, False, True]
+>>> from talkedalike.cases import Case
+>>> from talkedalike.rules import word_of
+>>> case, event = case_of(((0, 1), (1, 2), (1, 1)))
+>>> sorted([word_of(case, ("chance", event), some) for some in case.cells("one") + case.cells("other")])
+[(0, 1), (1, 1), (1, 2)]
+>>> rule_of(form, Case(["a", "b"], [1, 1], [("ann", (("a", "b"),))]), ("a",))
+('table', ((('a',), 0), (('a', 'b'), 1), (('b',), 0)))
+'''
+
+STAGE_13 = '''
+>>> from talkedalike.joins import are_joins, is_good, is_whole, least_classes, read_by
+>>> form = ("cut", "low", (("at", (1, 3), "mid"), ("above", (1, 2), "low"), ("at", (1, 1), "all")))
+>>> [least_classes(form), is_good(form, [["all"], ["mid", "low"]]), read_by(form, [["all"], ["mid", "low"]])[2]]
+[[['low', 'mid'], ['all']], True, (('low', 1), ('mid', 1), ('all', 0))]
+>>> [are_joins(form, []), is_whole(form, []), is_whole(form, [((0, 1), (1, 2), (3, 4))])]
+[True, False, True]
+'''
+
 
 class ExamplesTest(unittest.TestCase):
     def check(self, text):
@@ -122,6 +166,18 @@ class ExamplesTest(unittest.TestCase):
 
     def test_stage_9(self):
         self.check(STAGE_9)
+
+    def test_stage_10(self):
+        self.check(STAGE_10)
+
+    def test_stage_11(self):
+        self.check(STAGE_11)
+
+    def test_stage_12(self):
+        self.check(STAGE_12)
+
+    def test_stage_13(self):
+        self.check(STAGE_13)
 
     def test_readme(self):
         text = (pathlib.Path(__file__).parent.parent / "README.md").read_text(encoding="utf-8")

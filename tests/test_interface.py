@@ -37,6 +37,18 @@ FUNCTIONS = {
         "are_told_apart": "case rule order value",
     },
     "halls": {"replayed": "case events"},
+    "texts": {"format_case": "case", "read_case": "text"},
+    "forms": {
+        "is_share": "value", "is_form": "value", "word_for": "form share", "starts": "form", "words_of": "form",
+        "first_apart": "first second",
+    },
+    "always": {
+        "keeps_always": "form", "break_of": "form", "is_break": "form value", "case_of": "parts", "rule_of": "form case event",
+    },
+    "joins": {
+        "least_classes": "form", "is_good": "form value", "read_by": "form classes", "joins": "form", "are_joins": "form value",
+        "is_whole": "form value",
+    },
 }
 
 METHODS = {
@@ -49,6 +61,8 @@ METHODS = {
         "come": "self person cells", "leave": "self person", "undo": "self", "fork": "self", "heard": "self world",
         "possible": "self world",
     },
+    ("forms", "BadForm"): {"__init__": "self value"}, ("forms", "BadShare"): {"__init__": "self value"},
+    ("forms", "BadBreak"): {"__init__": "self value"}, ("forms", "BadClasses"): {"__init__": "self value"},
 }
 
 PROPERTIES = {("cases", "Case"): ["worlds", "weights", "names"], ("halls", "Hall"): ["case", "history"]}

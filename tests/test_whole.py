@@ -2,16 +2,21 @@
 
 import unittest
 
+from talkedalike.always import break_of, case_of, keeps_always, rule_of
 from talkedalike.backs import fits, rows, told_cells
 from talkedalike.cases import Case
 from talkedalike.endings import are_alike, is_settled, paper, unlike_worlds
+from talkedalike.forms import first_apart, starts, words_of
 from talkedalike.halls import Hall, replayed
+from talkedalike.joins import joins, least_classes, read_by
 from talkedalike.knowing import all_know, chain, knows, open_cells
 from talkedalike.rules import word_in, words
 from talkedalike.talks import after, end, said, talk, talk_length, teaches
-from talkedalike.verdicts import decide, is_split, keeps_together, splits
+from talkedalike.texts import format_case, read_case
+from talkedalike.verdicts import decide, is_split, keeps_together, quarrel, splits
 from talkedalike.whispers import deaf, deaf_case, leads, route, whispered, whispers
-from tests.drawn import draw_case, draw_event, draw_hall_events, draw_order, draw_rule, draw_web, drawer
+from tests.drawn import draw_case, draw_cells, draw_event, draw_form, draw_hall_events, draw_order, draw_rule, draw_three
+from tests.drawn import draw_web, drawer
 from tests.helpers import seen_of
 
 KINDS = ["chance", "atleast", "floor", "sure", "best", "size", "table"]
@@ -224,11 +229,112 @@ class AskedMuchTest(unittest.TestCase):
                     question, *given = asked[number]
                     self.assertEqual(seen(question(*given)), due[number])
             self.assertEqual(seen_of(case), before)
-            # The same of a case made anew with its parts.
-            again = Case(tuple(case.worlds), tuple(case.weights), [(name, tuple(case.cells(name))[::-1]) for name in case.names])
-            for (question, first, *given), told in zip(asked, due):
+
+    def test_of_forms(self):
+        draw = drawer(52)
+        forms = [draw_form(draw, draw.randrange(3)) for _ in range(30)]
+        asked = [(question, form) for form in forms for question in (starts, words_of, keeps_always, break_of, least_classes, joins)]
+        asked += [(first_apart, one, other) for one, other in zip(forms, forms[1:])] + [(case_of, draw_three(draw)) for _ in range(9)]
+        due = [question(*given) for question, *given in asked]
+        for _ in range(2):
+            sequence = list(range(len(asked)))
+            draw.shuffle(sequence)
+            for number in sequence:
+                question, *given = asked[number]
+                self.assertEqual(question(*given), due[number])
+
+
+def came_of_calls(draw, case):
+    """Cases that came of calls, made of one case."""
+    rule, order = draw_rule(draw, case, KINDS), draw_order(draw, case)
+    found = [after(case, rule, draw.choice(case.names)), end(case, rule, order), read_case(format_case(case)),
+             case.with_cells(draw.choice(case.names), draw_cells(draw, case.worlds)), case_of(draw_three(draw))[0],
+             quarrel(case, rule), replayed(case, draw_hall_events(draw, case, KINDS, 5)).case]
+    hall = Hall(case)
+    hall.look(draw.choice(case.names), draw_event(draw, case))
+    found.append(hall.fork().case)
+    if len(case.names) > 1:
+        web = draw_web(draw, case.names)
+        found += [whispered(case, rule, web), deaf_case(case, web)]
+    return [made for made in found if made is not None]
+
+
+class CameOfACallTest(unittest.TestCase):
+    def test_it_answers_as_a_case_made_anew_with_its_parts_does(self):
+        draw = drawer(53)
+        kinds = set()
+        for _ in range(25):
+            for case in came_of_calls(draw, draw_case(draw, most_worlds=4)):
+                # The parts are handed in otherwise, but they are the same.
+                people = [(name, tuple(some[::-1] for some in case.cells(name)[::-1])) for name in case.names]
+                again = Case(tuple(case.worlds), tuple(case.weights), tuple(people))
+                self.assertEqual(case, again)
+                self.assertEqual(again, case)
+                self.assertEqual(seen_of(case), seen_of(again))
+                self.assertEqual(format_case(case), format_case(again))
+                for name in case.names:
+                    self.assertEqual(case.with_cells(name, ((tuple(case.worlds)),)), again.with_cells(name, ((tuple(case.worlds)),)))
+                for question, first, *given in questions(draw, case):
+                    if first is case:
+                        kinds.add(question.__name__)
+                        self.assertEqual(seen(question(case, *given)), seen(question(again, *given)))
+        self.assertGreater(len(kinds), 22)
+
+    def test_cases_written_and_read_tell_the_same(self):
+        draw = drawer(54)
+        for _ in range(25):
+            case = draw_case(draw)
+            for question, first, *given in questions(draw, case):
                 if first is case:
-                    self.assertEqual(seen(question(again, *given)), told)
+                    self.assertEqual(seen(question(read_case(format_case(case)), *given)), seen(question(case, *given)))
+
+
+class RulesOfFormsTest(unittest.TestCase):
+    def test_a_form_read_by_its_least_classes_brings_all_talks_to_one_word(self):
+        draw = drawer(55)
+        for _ in range(120):
+            case, form = draw_case(draw), draw_form(draw, draw.randrange(3))
+            event, order = draw_event(draw, case), draw_order(draw, case)
+            read = rule_of(read_by(form, least_classes(form)), case, event)
+            self.assertIs(keeps_together(case, read), True)
+            self.assertEqual(unlike_worlds(case, read, order), ())
+            last = end(case, read, order)
+            for world in case.worlds:
+                self.assertIsNotNone(paper(last, read, order, world))
+
+    def test_words_said_in_one_world_at_the_end_are_of_one_class(self):
+        draw = drawer(56)
+        unlike = 0
+        for _ in range(200):
+            case, form = draw_case(draw, most_people=4), draw_form(draw, draw.randrange(3))
+            event = draw_event(draw, case)
+            if break_of(form) and draw.random() < 0.5:
+                case, event = case_of(break_of(form))
+            rule, order = rule_of(form, case, event), draw_order(draw, case)
+            told, classes = words_of(form), least_classes(form)
+            last = end(case, rule, order)
+            for world in case.worlds:
+                numbers = [word_in(last, rule, name, world) for name in order]
+                found = {at for number in numbers for at, some in enumerate(classes) if told[number] in some}
+                self.assertEqual(len(found), 1)
+                unlike += len(set(numbers)) > 1
+        self.assertGreater(unlike, 20)
+
+    def test_forms_that_nothing_parts_have_one_rule_in_each_case(self):
+        draw = drawer(57)
+        found = set()
+        for _ in range(150):
+            one, other = draw_form(draw, draw.randrange(3)), draw_form(draw, draw.randrange(3))
+            if draw.random() < 0.5:
+                other = ("read", one, tuple((word, word) for word in words_of(one) if not isinstance(word, tuple)))
+            case = draw_case(draw)
+            event = draw_event(draw, case)
+            same = first_apart(one, other) is None
+            if same:
+                self.assertEqual(rule_of(one, case, event), rule_of(other, case, event))
+                self.assertEqual(least_classes(one), least_classes(other))
+            found.add(same)
+        self.assertEqual(found, {True, False})
 
 
 if __name__ == "__main__":
