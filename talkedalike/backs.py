@@ -13,7 +13,9 @@ def fits(case, rule, order, heard):
     if not isinstance(heard, list) or len(heard) > MOST_TURNS:
         raise BadNumber(heard)
     course = Course(case, rule, order)
-    return tuple([world for world in sorted(case.worlds) if _are_one_row(course.row(world, len(heard)), heard)])
+    fitting = tuple([world for world in sorted(case.worlds) if course.row(world, len(heard)) == heard])
+    # What is equal may still have True in place of 1; but then it has so for all rows, as those are of one kind.
+    return fitting if fitting and _are_one_row(course.row(fitting[0], len(heard)), heard) else ()
 
 
 def rows(case, rule, order, turns):
@@ -25,7 +27,7 @@ def rows(case, rule, order, turns):
     found = []
     for world in case.worlds:
         row = course.row(world, turns)
-        # The words of one turn are of one kind in all worlds, so that none is True where another one is 1.
+        # Rows are of one kind, so that none has True where another one has 1.
         if row not in found:
             found.append(row)
     return found
@@ -47,8 +49,7 @@ def are_told_apart(case, rule, order, value):
 
 
 def _are_one_row(row, heard):
-    # Rows that are not even equal are told quickly.
-    return row == heard and all([are_one_word(word, thing) for word, thing in zip(row, heard)])
+    return all([are_one_word(word, thing) for word, thing in zip(row, heard)])
 
 
 def _told_masks(case, course):

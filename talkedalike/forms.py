@@ -217,24 +217,23 @@ def _side_by_side(one, other):
 def _simplest(low, low_is_in, high, high_is_in):
     """The simplest share from the low one to the high one, of which each may be in or not."""
     wholes = []
-    found = _least_whole(low, low_is_in, high, high_is_in)
+    found = _least_whole(low, low_is_in, high)
     while found is None:
         # All shares there lie between two neighbouring integers: go on with one over what is above the lower one.
         whole = low[0] // low[1]
         wholes.append(whole)
         low, high = (high[1], high[0] - whole * high[1]), (low[1], low[0] - whole * low[1])
         low_is_in, high_is_in = high_is_in, low_is_in
-        found = _least_whole(low, low_is_in, high, high_is_in)
+        found = _least_whole(low, low_is_in, high)
     top, bottom = found, 1
     for whole in reversed(wholes):
         top, bottom = whole * top + bottom, top
     return (top, bottom)
 
 
-def _least_whole(low, low_is_in, high, high_is_in):
-    """The least integer from the low fraction to the high one, None if there is none; the high one may be over 0."""
+def _least_whole(low, low_is_in, high):
+    """The least integer from the low fraction on and below the high one, which may be over 0; None if there is none."""
     whole = low[0] // low[1]
     if low_is_in and whole * low[1] == low[0]:
         return whole
-    over = (whole + 1) * high[1] - high[0]
-    return whole + 1 if over < 0 or (high_is_in and over == 0) else None
+    return whole + 1 if (whole + 1) * high[1] < high[0] else None

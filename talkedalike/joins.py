@@ -25,7 +25,7 @@ def is_good(form, value):
     """Whether any value is good classes of the form, in any order."""
     need_form(form)
     sequence = Sequence(form)
-    return _are_classes(sequence, value) and sequence.join(_class_numbers(sequence, value)) is None
+    return _are_classes(sequence, value) and sequence.next_join(_class_numbers(sequence, value)) is None
 
 
 def read_by(form, classes):
@@ -43,11 +43,11 @@ def joins(form):
     sequence = Sequence(form)
     numbers = sequence.alone()
     found = []
-    join = sequence.join(numbers)
+    join = sequence.next_join(numbers)
     while join is not None:
         found.append(join)
         numbers = sequence.joined(numbers, join)
-        join = sequence.join(numbers)
+        join = sequence.next_join(numbers)
     return found
 
 
@@ -62,7 +62,7 @@ def is_whole(form, value):
     need_form(form)
     sequence = Sequence(form)
     numbers = _numbers_behind(sequence, value)
-    return numbers is not None and sequence.join(numbers) is None
+    return numbers is not None and sequence.next_join(numbers) is None
 
 
 class Sequence:
@@ -78,7 +78,7 @@ class Sequence:
         """For each word the number of its class, where each word is alone."""
         return list(range(len(self.words)))
 
-    def join(self, classes):
+    def next_join(self, classes):
         """A join, where the words are in classes with these numbers, None if the classes are good."""
         placed = [classes[number] for number in self.numbers]
         for at, number in enumerate(placed):

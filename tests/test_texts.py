@@ -122,6 +122,10 @@ class BadLineTest(Refusals, unittest.TestCase):
             for rest in ["", "\nann a b", "\nann"]:
                 self.check("worlds a b\n" + line + rest, 2)
 
+    def test_figures_of_other_writings(self):
+        for word in ["\u0663", "\u00b2", "\uff11", "1\u0661"]:
+            self.check("worlds a\nweights " + word + "\nann a", 2)
+
     def test_lines_of_people(self):
         head = "worlds a b c\nweights 1 2 3\nann a | b c\n"
         for line in ["", "bob", "bob ", "bob a b", "bob a b c c", "bob a b c d", "bob a | b", "bob a b c |", "bob | a b c", "bob a | | b c",
